@@ -1,0 +1,1 @@
+"""Pawldials: great dials under rules, some of which turn one way alone."""

@@ -1,0 +1,24 @@
+"""Plain values: whole numbers between bounds, and copies that are kept."""
+
+
+def is_whole(thing, low, high):
+    """Whether it is a whole number, no truth, from low to high."""
+    if isinstance(thing, bool) or not isinstance(thing, int):
+        return False
+    return low <= thing <= high
+
+
+def is_tuple_of(thing, least, most):
+    """Whether it is a tuple of at least and at most so many things."""
+    return isinstance(thing, tuple) and least <= len(thing) <= most
+
+
+def kept(thing):
+    """A copy that stays as it is, whatever becomes of the lists and dicts in the thing."""
+    if isinstance(thing, list):
+        return [kept(part) for part in thing]
+    if isinstance(thing, tuple):
+        return tuple([kept(part) for part in thing])
+    if isinstance(thing, dict):
+        return {key: kept(thing[key]) for key in thing}
+    return thing

@@ -1,0 +1,26 @@
+"""The interface's names and arguments, each defined in the file that lists it."""
+
+import importlib
+import inspect
+import unittest
+
+LISTED = {
+    "houses": {"is_house": ["thing"], "is_standing": ["house", "thing"], "is_wish": ["house", "thing"],
+               "fault_of": ["thing"], "broken": ["house", "numbers"], "meets": ["house", "numbers", "wish"]},
+    "walks": {"walked": ["house", "standing", "walk"], "spread": ["house", "standing", "strength"]},
+}
+
+
+class Interface(unittest.TestCase):
+    def test_names_arguments_and_files(self):
+        for file, functions in LISTED.items():
+            module = importlib.import_module("pawldials." + file)
+            for name, arguments in functions.items():
+                with self.subTest(file=file, name=name):
+                    function = getattr(module, name)
+                    self.assertEqual(list(inspect.signature(function).parameters), arguments)
+                    self.assertEqual(function.__module__, "pawldials." + file)
+
+
+if __name__ == "__main__":
+    unittest.main()
