@@ -8,6 +8,9 @@ LISTED = {
     "houses": {"is_house": ["thing"], "is_standing": ["house", "thing"], "is_wish": ["house", "thing"],
                "fault_of": ["thing"], "broken": ["house", "numbers"], "meets": ["house", "numbers", "wish"]},
     "walks": {"walked": ["house", "standing", "walk"], "spread": ["house", "standing", "strength"]},
+    "chains": {"is_chain": ["house", "thing"]},
+    "finding": {"some_standing": ["house"], "bars_all": ["house", "thing"], "spans": ["house", "wish"]},
+    "rings": {"ring": ["house", "place"]},
 }
 
 
