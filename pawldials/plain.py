@@ -8,6 +8,11 @@ def is_whole(thing, low, high):
     return low <= thing <= high
 
 
+def is_count(thing):
+    """Whether it is a whole number from 0 on, however great."""
+    return isinstance(thing, int) and not isinstance(thing, bool) and thing >= 0
+
+
 def is_tuple_of(thing, least, most):
     """Whether it is a tuple of at least and at most so many things."""
     return isinstance(thing, tuple) and least <= len(thing) <= most

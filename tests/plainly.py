@@ -1,6 +1,7 @@
 """What DOC.md says of chains, papers and walks, done the plain way: by its words, and by going through all numbers."""
 
 import itertools
+import random
 
 from samples import GREAT, NAMES, places_between, plain_can_turn, plain_holds, plain_rule_holds, plain_standings
 
@@ -288,8 +289,8 @@ class Small:
         return tuple(numbers[at] >= place[1] for numbers in self.standings)
 
 
-def bound_rules(pick, dials):
-    """A rule, or two that bind dials with one another, or a gap."""
+def bound_rules(pick, dials, spot=None):
+    """A rule, or two that bind dials with one another, or a gap; mostly such that all hold at the spot."""
     names = [row[0] for row in dials]
     kind = pick.randint(0, 5) if len(names) > 1 else pick.randint(3, 5)
 
@@ -299,12 +300,17 @@ def bound_rules(pick, dials):
 
     if kind <= 2:
         a, b = pick.sample(names, 2)
-        c = pick.randint(-3, 5)
-        if kind <= 1:
+        sign = pick.choice([1, -1])
+        c = pick.randint(-3, 5) if spot is None else spot[a] - sign * spot[b] + pick.choice([0, 0, 1, -1, 2, 3])
+        if kind == 0:
             return [(pick.choice(["off", "most", "least"]), a, b, c)]
-        return pick.choice([[("off", a, b, c), ("off", b, a, -c)], [("most", a, b, c), ("least", a, b, c)]])
+        if sign > 0:
+            return [("off", a, b, c), ("off", b, a, -c)]
+        return [("most", a, b, c), ("least", a, b, c)]
     if kind == 3:
         p, q = saying(), saying()
+        if spot is not None and plain_holds(p, spot) != plain_holds(q, spot):
+            q = opposite(q)
         return [("one", opposite(p), q), ("one", opposite(q), p)]
     if kind == 4:
         name, low, high, *_ = pick.choice(dials)
@@ -313,19 +319,19 @@ def bound_rules(pick, dials):
     return [("one", saying(), saying())]
 
 
-def bound_house(pick, ways=("both", "up", "down"), count=None):
+def bound_house(pick, ways=("both", "up", "down"), dials=(1, 4)):
     """A small house with a standing at least, and with rules that bind."""
-    dials = []
-    for name in sorted(pick.sample(NAMES, count or pick.randint(1, 3))):
+    rows = []
+    for name in sorted(pick.sample(NAMES, pick.randint(*dials))):
         low = pick.randint(-2, 1)
-        dials.append((name, low, low + pick.randint(1, 4), pick.choice(ways), pick.randint(1, 9), pick.randint(1, 9)))
-    spot = {row[0]: pick.randint(row[1], row[2]) for row in dials}
+        rows.append((name, low, low + pick.randint(1, 5), pick.choice(ways), pick.randint(1, 9), pick.randint(1, 9)))
+    spot = {row[0]: pick.randint(row[1], row[2]) for row in rows}
     rules = []
-    for _ in range(pick.randint(0, 8)):
-        for rule in bound_rules(pick, dials):
+    for _ in range(pick.randint(0, 5)):
+        for rule in bound_rules(pick, rows, spot):
             if rule not in rules and plain_rule_holds(rule, spot):
                 rules.append(rule)
-    return (tuple(dials), tuple(rules))
+    return (tuple(rows), tuple(rules))
 
 
 def some_saying(pick, small, here):
@@ -345,9 +351,7 @@ def some_wish(pick, small, here, most=3):
 
 
 def small_cases(seed, count, most=3, **more):
-    """Tuples (small, standing, wish)."""
-    import random
-
+    """So many tuples (small, standing, wish); more is for bound_house."""
     pick = random.Random(seed)
     while count:
         small = Small(bound_house(pick, **more))

@@ -11,6 +11,16 @@ LISTED = {
     "chains": {"is_chain": ["house", "thing"]},
     "finding": {"some_standing": ["house"], "bars_all": ["house", "thing"], "spans": ["house", "wish"]},
     "rings": {"ring": ["house", "place"]},
+    "nearest": {"nearest": ["house", "standing", "wish"], "reason": ["house", "standing", "wish", "name"],
+                "why": ["house", "standing", "wish"], "bars": ["house", "standing", "wish", "paper"]},
+    "weakness": {"weak": ["house", "standing", "wish", "strength"],
+                 "bars_weak": ["house", "standing", "wish", "strength", "paper"]},
+    "heaving": {"heaves": ["house", "standing", "wish", "most"]},
+    "orders": {"in_order": ["house", "standing", "wishes"], "any_order": ["house", "standing", "wishes"],
+               "bars_order": ["house", "standing", "wishes", "paper"],
+               "bars_any": ["house", "standing", "wishes", "paper"], "ahead": ["house", "standing", "wishes"],
+               "spared": ["house", "standing", "wishes"], "cheapest": ["house", "standing", "wishes"],
+               "open_now": ["house", "standing", "wishes"], "till": ["house", "standing", "wish", "name"]},
 }
 
 

@@ -119,6 +119,45 @@ class Language(unittest.TestCase):
             if isinstance(node.func, ast.Attribute):
                 self.assertIn(node.func.attr, METHODS | own | {"__init__"}, where)
 
+    def test_no_two_files_import_each_other(self):
+        needs = {file: {node.module.split(".")[1] for node in ast.walk(tree) if isinstance(node, ast.ImportFrom)}
+                 for file, (_, tree) in self.files.items()}
+        while needs:
+            done = [file for file, those in needs.items() if not those & set(needs)]
+            self.assertTrue(done, needs)
+            needs = {file: those for file, those in needs.items() if file not in done}
+
+    def test_no_name_is_a_method_and_an_attribute(self):
+        methods, attributes, read = set(), set(), set()
+        for node, _ in self.each(ast.ClassDef):
+            methods |= {row.name for row in node.body if isinstance(row, ast.FunctionDef)}
+        for node, _ in self.each(ast.Attribute):
+            (read if isinstance(node.ctx, ast.Load) else attributes).add(node.attr)
+        self.assertEqual(methods & attributes, set())
+        self.assertEqual(attributes & METHODS, set())
+        self.assertEqual(read - methods - attributes - METHODS, set())
+
+    def test_what_is_iterated_at_once_is_not_kept(self):
+        takers = {"list", "tuple", "dict", "sorted", "sum", "any", "all", "enumerate", "zip", "min", "max"}
+        for file, (_, tree) in self.files.items():
+            good = set()
+            for node in ast.walk(tree):
+                if isinstance(node, (ast.For, ast.comprehension)):
+                    good.add(node.iter)
+                elif isinstance(node, ast.Call) and isinstance(node.func, ast.Name) and node.func.id in takers:
+                    good.update(node.args[:1])
+            for node in ast.walk(tree):
+                if isinstance(node, ast.Call):
+                    name = node.func.id if isinstance(node.func, ast.Name) else getattr(node.func, "attr", "")
+                    if name in ("range", "zip", "enumerate", "reversed", "items", "keys", "values"):
+                        self.assertIn(node, good, f"{file}, line {node.lineno}")
+
+    def test_what_stands_at_module_level(self):
+        for file, (_, tree) in self.files.items():
+            self.assertIsInstance(tree.body[0], ast.Expr, file)
+            for row in tree.body[1:]:
+                self.assertIsInstance(row, (ast.ImportFrom, ast.FunctionDef, ast.ClassDef, ast.Assign), file)
+
     def test_what_is_raised_is_made_on_the_spot(self):
         for node, where in self.each(ast.Raise):
             self.assertTrue(isinstance(node.exc, ast.Call) and isinstance(node.exc.func, ast.Name), where)
