@@ -166,6 +166,41 @@ class BarsAll(unittest.TestCase):
                 self.assertIs(bars_all(house, thing), good, (house, thing))
         self.assertGreater(min(told.values()), 300)
 
+    def test_circles_with_one_thing_otherwise(self):
+        pick = random.Random(33)
+        told = {True: 0, False: 0}
+        for _ in range(40):
+            names = NAMES[:pick.randint(2, 4)]
+            sums = [pick.randint(-2, 2) for _ in names]
+            sums[0] -= sum(sums) + pick.randint(1, 2)
+            rules = [("off", name, (names[1:] + names[:1])[k], sums[k]) for k, name in enumerate(names)]
+            rules.append(("one", ("a", "most", 2), ("b", "least", 1)))
+            house = house_of([dial(name, -8, 8) for name in names], *rules)
+            paper = some_standing(house)
+            self.assertEqual(paper[0], "circle")
+            for thing in [paper, *otherwise(paper)]:
+                good = plain_bars_all(house, thing)
+                told[good] += 1
+                self.assertIs(bars_all(house, thing), good, (house, thing))
+        self.assertGreater(min(told.values()), 100)
+
+    def test_circles_end_where_they_begin(self):
+        # Once around says just as much; only of another dial, or of the other sort, a number is greater.
+        house = house_of([dial("a"), dial("b"), dial("c")], ("off", "a", "b", -3), ("off", "b", "a", 3),
+                         ("most", "a", "c", 9), ("least", "a", "c", 9), ("off", "c", "b", 4))
+        for chain in ([(("a", "least", 1), None), (("b", "least", 4), 0)],
+                      [(("a", "least", 1), None), (("b", "least", 4), 0), (("a", "least", 1), 1)],
+                      [(("a", "most", 5), None), (("b", "most", 8), 1), (("a", "most", 5), 0)],
+                      [(("b", "most", 8), None), (("a", "most", 5), 0)],
+                      [(("a", "least", 1), None), (("c", "most", 8), 2)],
+                      [(("a", "most", 5), None), (("c", "least", 4), 3), (("b", "least", 0), 4)]):
+            self.assertIs(is_chain(house, chain), True)
+            self.assertIs(bars_all(house, ("circle", chain)), False)
+        around = [(("a", "least", 0), None), (("b", "least", 0), 0), (("a", "least", 1), 1)]
+        house = house_of([dial("a"), dial("b")], ("off", "a", "b", 0), ("off", "b", "a", -1))
+        for word, good in (("circle", True), ("chains", False), ("", False), (None, False), (["circle"], False)):
+            self.assertIs(bars_all(house, (word, around)), good)
+
     def test_nothing_bars_what_has_standings(self):
         pick = random.Random(37)
         for _ in range(60):

@@ -87,6 +87,15 @@ class Heaves(unittest.TestCase):
             heaves(house, (0, 0), (("a", "least", FAR),))
         self.assertEqual(len(self.check(house, (0, 0), (("a", "least", 2000),), most=4000)), 2000)
 
+    def test_the_smallest_ring_goes_ahead(self):
+        # a and b turn at once, c and d do; a goes no higher than c.
+        house = wide_house(("off", "a", "b", 0), ("off", "b", "a", 0), ("off", "c", "d", 0), ("off", "d", "c", 0),
+                           ("off", "a", "c", 0), count=4)
+        for start in (-9, -3, 0, 7):
+            for wish in ((("a", "least", start + 3),), (("c", "most", start - 3),)):
+                self.check(house, (start,) * 4, wish)
+                self.assertEqual(nearest(house, (start,) * 4, wish)[1:], (12, 2))
+
     def test_dials_that_go_side_by_side(self):
         house = wide_house(("off", "a", "b", 0), ("off", "b", "a", 5), ("most", "b", "c", 0), ("least", "b", "c", -3),
                            count=3)

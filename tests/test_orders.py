@@ -251,6 +251,41 @@ class Looker(unittest.TestCase):
         self.assertIs(bars_order(house, here, both, ("bar", 1, ("pair", 0, five[:1], low))), False)
         self.assertEqual([row[0] for row in in_order(house, here, both)], [(5, 7, 5), (5, 7, 4)])
 
+    def test_pairs_of_a_wish_with_itself_or_one_behind(self):
+        house, here = locks(1), (0,)
+        up, low = [(("a", "least", 5), None)], [(("a", "most", 4), None)]
+        torn = (("a", "least", 5), ("a", "most", 4))
+        for wishes, n, m, good in (([torn, torn], 1, 0, True), ([torn, torn], 1, 1, False), ([torn, torn], 0, 1, False),
+                                   ([torn, torn], 0, 0, False), ([torn[:1], torn[1:]], 1, 0, True),
+                                   ([torn[1:], torn[:1]], 0, 1, False)):
+            with self.subTest(wishes=wishes, n=n, m=m):
+                self.assertIs(bars_order(house, here, wishes, ("bar", n, ("pair", m, up, low))), good)
+        for m, n, good in ((0, 1, True), (0, 0, False), (1, 1, False)):
+            links = [(m, up, n, low), (n, up, m, low)]
+            self.assertIs(bars_any(house, here, [torn, torn], ("ring", links)), good)
+
+    def test_the_second_chain_ends_at_the_same_dial(self):
+        # b at least 10 denies whatever there is; only a saying of a shows that a's pawl is in the way.
+        house = house_of([dial("a", 0, 9, "up"), dial("b")], ("one", ("b", "most", 9), ("a", "most", 4)))
+        wishes = [(("a", "least", 5),), (("b", "least", 10),)]
+        up = [(("a", "least", 5), None)]
+        lost = [(("b", "least", 10), None)]
+        for second, good in ((lost, False), ([*lost, (("a", "most", 4), 0)], True), ([*lost, (("b", "least", 9), -1)], False)):
+            self.assertIs(bars_order(house, (0, 0), wishes, ("bar", 1, ("pair", 0, up, second))), good)
+
+    def test_rings_of_ten_and_eleven_links(self):
+        house = locks(3)
+        wishes = [tuple((name, "least" if name == own else "most", int(name == own)) for name in NAMES[:3])
+                  for own in NAMES[:3]]
+        for count, good in ((2, True), (3, True), (10, True), (11, False), (12, False)):
+            path = [k % 2 for k in range(count)]
+            if count % 2:
+                path[-1] = 2
+            links = []
+            for m, n in zip(path, path[1:] + path[:1]):
+                links.append((m, [((NAMES[m], "least", 1), None)], n, [((NAMES[m], "most", 0), None)]))
+            self.assertIs(bars_any(house, (0, 0, 0), wishes, ("ring", links)), good)
+
     def test_rings_by_hand(self):
         house, wishes = locks(2), around(2)
         one = (0, [(("b", "least", 1), None)], 1, [(("b", "most", 0), None)])

@@ -134,6 +134,18 @@ class Refusals(unittest.TestCase):
             with self.assertRaises(NoPlace):
                 ring(house, ("a", 1))
 
+    def test_a_dial_beside_rules_that_bar_all(self):
+        cross = [("one", ("a", one, i), ("b", other, k)) for one, i in (("least", 5), ("most", 4))
+                 for other, k in (("least", 5), ("most", 4))]
+        gone = (cross, [("off", "a", "b", 0), ("off", "b", "a", -1)], [("off", "a", "b", -10)],
+                [("one", ("a", "least", 10), ("b", "most", -1))],
+                [("most", "a", "b", 7), ("least", "a", "b", 7), ("off", "a", "b", 0), ("off", "b", "a", 0)])
+        for rules in gone:
+            for i in (1, 5, 9):
+                with self.subTest(rules=rules), self.assertRaises(NoPlace):
+                    ring(house_of([dial("a"), dial("b"), dial("c")], *rules), ("c", i))
+        self.assertEqual(ring(house_of([dial("a"), dial("b"), dial("c")], *cross[1:]), ("c", 5)), [("c", 5, 5, True)])
+
     def test_no_house(self):
         for thing in odd_things():
             with self.assertRaises(NoHouse):
