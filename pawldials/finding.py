@@ -71,6 +71,16 @@ def some_standing(house):
     return ("standing", numbers_in(known))
 
 
+def any_standing(house):
+    """The numbers of any standing; None where there is none. It may have more rules than a house, with any numbers."""
+    graph = Graph(house)
+    if bar_ahead(graph) is not None:
+        return None
+    facts = facts_of(Ways(graph))
+    known = None if facts.clashes() else settled(facts)[0]
+    return None if known is None else numbers_in(known)
+
+
 def is_circle(layout, thing):
     """Whether it is a chain by rules of the first three sorts to more than it begins with."""
     if not holds_together(layout, thing):

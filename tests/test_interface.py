@@ -21,6 +21,10 @@ LISTED = {
                "bars_any": ["house", "standing", "wishes", "paper"], "ahead": ["house", "standing", "wishes"],
                "spared": ["house", "standing", "wishes"], "cheapest": ["house", "standing", "wishes"],
                "open_now": ["house", "standing", "wishes"], "till": ["house", "standing", "wish", "name"]},
+    "beats": {"quickest": ["house", "standing", "wish"], "at_beat": ["house", "standing", "wish", "t"],
+              "beat_of": ["house", "standing", "wish", "name", "number"]},
+    "hands": {"meeting": ["house", "hands"], "no_meeting": ["house", "hands", "thing"]},
+    "ruling": {"follows": ["house", "rule"], "needless": ["house"], "alike": ["house", "second"]},
 }
 
 
