@@ -25,6 +25,16 @@ LISTED = {
               "beat_of": ["house", "standing", "wish", "name", "number"]},
     "hands": {"meeting": ["house", "hands"], "no_meeting": ["house", "hands", "thing"]},
     "ruling": {"follows": ["house", "rule"], "needless": ["house"], "alike": ["house", "second"]},
+    "forgetting": {"forgotten": ["house", "name"]},
+    "texts": {"show_house": ["house"], "show_chain": ["chain"], "read_house": ["text"], "read_chain": ["text"]},
+    "keepers": {"Keeper": ["house", "standing", "strength"]},
+    "desk": {"Desk": []},
+}
+METHODS = {
+    ("keepers", "Keeper"): {"do": ["deed"], "undo": [], "again": [], "stand_now": [], "coins_now": [], "paid_now": [],
+                            "house_now": [], "deeds_now": [], "can_meet": ["wish"], "loses": ["deed", "wishes"],
+                            "copied": []},
+    ("desk", "Desk"): {"say": ["row"]},
 }
 
 
@@ -37,6 +47,13 @@ class Interface(unittest.TestCase):
                     function = getattr(module, name)
                     self.assertEqual(list(inspect.signature(function).parameters), arguments)
                     self.assertEqual(function.__module__, "pawldials." + file)
+
+    def test_methods_stand_in_the_class_itself(self):
+        for (file, name), methods in METHODS.items():
+            kind = getattr(importlib.import_module("pawldials." + file), name)
+            for method, arguments in methods.items():
+                with self.subTest(name=name, method=method):
+                    self.assertEqual(list(inspect.signature(vars(kind)[method]).parameters), ["self", *arguments])
 
 
 if __name__ == "__main__":
